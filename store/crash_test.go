@@ -51,6 +51,7 @@ type script struct {
 	stored []step
 	ahead  []op
 	ops    []op
+	packs  uint32 // how often the lane is packed then
 }
 
 // An explorer breaks off whatever is done with a store.
@@ -94,6 +95,9 @@ func (x *explorer) script(s script) {
 	for n, down := 0, true; down; n++ {
 		var w *world
 		w, _, down = x.broken(s, image, *begun.m, n)
+		if !down && w.generation() != 3+s.packs {
+			x.t.Errorf("packed %d times; want %d", w.generation()-3, s.packs)
+		}
 		for _, mask := range masks(x.r, w.d.Waits(0)) {
 			w, may, _ := x.broken(s, image, *begun.m, n)
 			w.d.Crash(mask)
@@ -104,12 +108,9 @@ func (x *explorer) script(s script) {
 
 // found opens what a crash has left (so many crashes were in Open), which must be one of these; and goes on from there.
 func (x *explorer) found(image []byte, may []*model, opened int) {
-	sum := sha256.Sum256(image)
-	if x.seen[sum] && len(may) > 1 {
-		return
-	}
 	w := &world{t: x.t, d: diskOf(x.t, image)}
 	w.open(may)
+	sum := sha256.Sum256(image)
 	if x.seen[sum] {
 		return
 	}
@@ -128,13 +129,35 @@ func (w *world) open(may []*model) {
 	if e != api.OK {
 		w.t.Fatal(e)
 	}
-	at := slices.IndexFunc(may, func(m *model) bool { return slices.Equal(m.rows(), s.Rows()) })
+	// By slots too: a transaction may have moved a row, and done nothing else.
+	at := slices.IndexFunc(may, func(m *model) bool { return m.slotted() == found(s) })
 	if at < 0 {
 		w.t.Fatalf("found %v; want %v, or one of %d others", s.Rows(), may[0].rows(), len(may)-1)
 	}
 	w.s, w.m = s, may[at].behind()
 	w.wantSame("Open")
 	w.wantPages("Open")
+}
+
+// slotted: each slot's row; found: that of a store's.
+func (m *model) slotted() (all [places]api.Row) {
+	for i, r := range m.slots {
+		all[i].Table = -1
+		if r != nil {
+			all[i] = *r
+		}
+	}
+	return all
+}
+
+func found(s *Store) (all [places]api.Row) {
+	for i := range all {
+		all[i].Table = -1
+	}
+	for i := range s.index.All {
+		all[i.Page*api.Slots+i.Slot] = i.Row
+	}
+	return all
 }
 
 // breakOpen breaks off Open behind each number of writes.
@@ -178,29 +201,29 @@ func scripts() []script {
 	changes := []op{begin(), put(1, "a", "x"), put(1, "c", "y"), del(1, "b"), save(1), put(1, "a", "z"), del(1, "c")}
 	on := func(l ...op) []op { return slices.Concat(changes, l) }
 	return []script{
-		{"a first put", nil, nil, []op{begin(), put(1, "a", "x"), commit(1)}},
-		{"puts", two, nil, []op{begin(), put(1, "a", "x"), put(1, "c", "y"), commit(1), begin(), put(1, "c", "z"), commit(1)}},
-		{"changes", two, nil, on(commit(1))},
-		{"changes, written", two, nil, on(write(0), commit(1), write(0))},
-		{"changes, written on the way", two, nil, []op{begin(), put(1, "a", "x"), write(0), put(1, "c", "y"), write(0), del(1, "b"), write(0), commit(1)}},
-		{"back", two, nil, on(write(0), back(1, 1), write(0), commit(1), write(0))},
-		{"back, and on", two, nil, on(back(1, 1), write(0), put(1, "d", "u"), commit(1), pack())},
-		{"abort", two, nil, on(abort(1), write(0))},
-		{"abort, written", two, nil, on(write(0), abort(1), write(0), begin(), put(1, "b", "x"), commit(1))},
-		{"point", two, nil, on(point(), write(0), back(1, 1), point(), write(0), point(), commit(1))},
-		{"point behind a write", two, nil, on(write(0), point(), back(1, 1), write(0), commit(1))},
-		{"pack", two, nil, on(pack(), back(1, 1), pack(), commit(1), pack())},
-		{"pack behind pack", two, nil, on(pack(), pack(), write(0), abort(1), write(0))},
-		{"two", two, []op{begin(), begin()}, []op{put(1, "a", "x"), put(2, "b", "y"), write(0), put(2, "c", "z"), commit(1), write(0), put(2, "d", "u"), point(), write(0)}},
-		{"two, and both commit", two, []op{begin(), begin()}, []op{put(1, "a", "x"), put(2, "b", "y"), write(0), commit(2), put(1, "c", "z"), commit(1)}},
-		{"three", two, []op{begin(), begin(), begin(), put(1, "a", "x"), put(2, "b", "y"), put(3, "c", "z")}, []op{pack(), put(3, "d", "u"), abort(2), write(0), commit(3), point(), commit(1)}},
-		{"a slot for several", two, []op{begin(), begin()}, []op{del(1, "a"), commit(1), put(2, "c", "x"), write(0), begin(), put(1, "d", "y"), abort(2), put(1, "e", "z"), commit(1)}},
-		{"pages", full(), nil, slices.Concat([]op{begin()}, over(1, 0, 1, 2, 3, 4, 5, 0), []op{commit(1)})},
-		{"pages, undone", full(), slices.Concat([]op{begin(), save(1)}, over(1, 0, 1, 2)), slices.Concat(over(1, 3, 4, 5), []op{back(1, 1), over(1, 0)[0], commit(1)})},
-		{"pages of two", full(), slices.Concat([]op{begin(), begin()}, over(2, 0, 1)), slices.Concat(over(1, 3, 0, 4), over(2, 5), []op{commit(1), point(), over(2, 2)[0], pack()})},
+		{"a first put", nil, nil, []op{begin(), put(1, "a", "x"), commit(1)}, 0},
+		{"puts", two, nil, []op{begin(), put(1, "a", "x"), put(1, "c", "y"), commit(1), begin(), put(1, "c", "z"), commit(1)}, 0},
+		{"changes", two, nil, on(commit(1)), 0},
+		{"changes, written", two, nil, on(write(0), commit(1), write(0)), 0},
+		{"changes, written on the way", two, nil, []op{begin(), put(1, "a", "x"), write(0), put(1, "c", "y"), write(0), del(1, "b"), write(0), commit(1)}, 0},
+		{"back", two, nil, on(write(0), back(1, 1), write(0), commit(1), write(0)), 0},
+		{"back, and on", two, nil, on(back(1, 1), write(0), put(1, "d", "u"), commit(1), pack()), 1},
+		{"abort", two, nil, on(abort(1), write(0)), 0},
+		{"abort, written", two, nil, on(write(0), abort(1), write(0), begin(), put(1, "b", "x"), commit(1)), 0},
+		{"point", two, nil, on(point(), write(0), back(1, 1), point(), write(0), point(), commit(1)), 0},
+		{"point behind a write", two, nil, on(write(0), point(), back(1, 1), write(0), commit(1)), 0},
+		{"pack", two, nil, on(pack(), back(1, 1), pack(), commit(1), pack()), 3},
+		{"pack behind pack", two, nil, on(pack(), pack(), write(0), abort(1), write(0)), 2},
+		{"two", two, []op{begin(), begin()}, []op{put(1, "a", "x"), put(2, "b", "y"), write(0), put(2, "c", "z"), commit(1), write(0), put(2, "d", "u"), point(), write(0)}, 0},
+		{"two, and both commit", two, []op{begin(), begin()}, []op{put(1, "a", "x"), put(2, "b", "y"), write(0), commit(2), put(1, "c", "z"), commit(1)}, 0},
+		{"three", two, []op{begin(), begin(), begin(), put(1, "a", "x"), put(2, "b", "y"), put(3, "c", "z")}, []op{pack(), put(3, "d", "u"), abort(2), write(0), commit(3), point(), commit(1)}, 1},
+		{"a slot for several", two, []op{begin(), begin()}, []op{del(1, "a"), commit(1), put(2, "c", "x"), write(0), begin(), put(1, "d", "y"), abort(2), put(1, "e", "z"), commit(1)}, 0},
+		{"pages", full(), nil, slices.Concat([]op{begin()}, over(1, 0, 1, 2, 3, 4, 5, 0), []op{commit(1)}), 0},
+		{"pages, undone", full(), slices.Concat([]op{begin(), save(1)}, over(1, 0, 1, 2)), slices.Concat(over(1, 3, 4, 5), []op{back(1, 1), over(1, 0)[0], commit(1)}), 0},
+		{"pages of two", full(), slices.Concat([]op{begin(), begin()}, over(2, 0, 1)), slices.Concat(over(1, 3, 0, 4), over(2, 5), []op{commit(1), point(), over(2, 2)[0], pack()}), 1},
 		{"a full lane", two, slices.Concat([]op{begin(), put(1, "b", "x")}, slices.Repeat([]op{begin(), put(2, "a", "1"), put(2, "a", "2"), commit(2)}, 54)),
-			[]op{begin(), put(2, "a", "3"), commit(2), begin(), put(2, "a", "4"), write(0), put(1, "b", "y"), put(2, "a", "5"), commit(1)}},
-		{"a lane full of marks", two, slices.Concat(changes, slices.Repeat([]op{point()}, 147)), []op{point(), point(), write(0), point(), point(), back(1, 1), point(), commit(1)}},
+			[]op{begin(), put(2, "a", "3"), commit(2), begin(), put(2, "a", "4"), write(0), put(1, "b", "y"), put(2, "a", "5"), commit(1)}, 1},
+		{"a lane full of marks", two, slices.Concat(changes, slices.Repeat([]op{point()}, 164)), []op{point(), point(), write(0), point(), point(), back(1, 1), point(), commit(1)}, 1},
 	}
 }
 

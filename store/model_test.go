@@ -236,7 +236,7 @@ func (m *model) steer(o op) answer {
 	return answer{}
 }
 
-// do: what a call of a store answers.
+// call: what the store answers.
 func (w *world) call(o op) answer {
 	switch o.name {
 	case "begin":
